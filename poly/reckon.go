@@ -1,11 +1,10 @@
 package poly
 
 import (
-	"slices"
-
 	"planisphere/api"
 	"planisphere/frac"
-	"planisphere/wide"
+	"planisphere/sure"
+	"planisphere/terms"
 )
 
 // Add returns the sum.
@@ -18,28 +17,24 @@ func Sub(p, q []api.Wide) ([]api.Wide, api.Errno) { return join(p, q, difference
 func Mul(p, q []api.Wide) ([]api.Wide, api.Errno) { return join(p, q, product) }
 
 // Deriv returns the derivative.
-func Deriv(p []api.Wide) ([]api.Wide, api.Errno) { return change(p, derivative) }
+func Deriv(p []api.Wide) ([]api.Wide, api.Errno) { return change(p, terms.Derivative) }
 
 func sum(p, q []api.Wide) []api.Wide {
-	return list(max(len(p), len(q)), func(i int) api.Wide { return plus(at(p, i), at(q, i)) })
+	return terms.List(max(len(p), len(q)), func(i int) api.Wide { return sure.Add(terms.At(p, i), terms.At(q, i)) })
 }
 
 func difference(p, q []api.Wide) []api.Wide {
-	return list(max(len(p), len(q)), func(i int) api.Wide { return minus(at(p, i), at(q, i)) })
+	return terms.List(max(len(p), len(q)), func(i int) api.Wide { return sure.Sub(terms.At(p, i), terms.At(q, i)) })
 }
 
 func product(p, q []api.Wide) []api.Wide {
-	return list(max(len(p)+len(q)-1, 0), func(k int) api.Wide {
+	return terms.List(len(p)+len(q)-1, func(k int) api.Wide {
 		total := api.Wide{}
 		for i, c := range p {
-			total = plus(total, times(c, at(q, k-i)))
+			total = sure.Add(total, sure.Mul(c, terms.At(q, k-i)))
 		}
 		return total
 	})
-}
-
-func derivative(p []api.Wide) []api.Wide {
-	return list(max(len(p)-1, 0), func(i int) api.Wide { return times(wide.From(int64(i+1)), p[i+1]) })
 }
 
 // Eval returns the value at a fraction.
@@ -47,7 +42,7 @@ func Eval(p []api.Wide, x api.Frac) (api.Frac, api.Errno) {
 	if e := checkAt(p, x); e != api.OK {
 		return api.Frac{}, e
 	}
-	return frac.Make(value(p, x))
+	return frac.Make(terms.Value(p, x))
 }
 
 // Sign returns the sign of the value at a fraction.
@@ -55,8 +50,8 @@ func Sign(p []api.Wide, x api.Frac) (int, api.Errno) {
 	if e := checkAt(p, x); e != api.OK {
 		return 0, e
 	}
-	num, _ := value(p, x)
-	return wide.Sign(num)
+	num, _ := terms.Value(p, x)
+	return sure.Sign(num), api.OK
 }
 
 // checkAt returns the error of a polynomial or of the fraction at which it is
@@ -72,17 +67,4 @@ func checkAt(p []api.Wide, x api.Frac) api.Errno {
 		return api.ErrMany
 	}
 	return api.OK
-}
-
-// value returns two numbers whose quotient is the value at a fraction. The
-// second one is greater than 0.
-func value(p []api.Wide, x api.Frac) (num, den api.Wide) {
-	den = wide.From(1)
-	for i, c := range slices.Backward(p) {
-		num = plus(times(num, x.Num), times(c, den))
-		if i > 0 {
-			den = times(den, x.Den)
-		}
-	}
-	return num, den
 }

@@ -41,16 +41,29 @@ func Pow(w api.Wide, k int) (api.Wide, api.Errno) {
 	return p, e
 }
 
-// product returns the product of two absolute values.
+// product returns the product of two absolute values. The limbs 0 that they
+// begin with take no time: long numbers are often multiplied by powers of 2.
 func product(a, b []uint32) []uint32 {
+	skip := empty(a) + empty(b)
+	a, b = a[empty(a):], b[empty(b):]
 	if len(a) < len(b) {
 		a, b = b, a
 	}
-	p := make([]uint32, len(a)+len(b))
+	p := make([]uint32, skip+len(a)+len(b))
 	for i, y := range b {
+		i += skip
 		p[i+len(a)] = addProduct(p[i:], a, y)
 	}
 	return trim(p)
+}
+
+// empty returns how many limbs 0 an absolute value begins with.
+func empty(mag []uint32) int {
+	i := 0
+	for i < len(mag) && mag[i] == 0 {
+		i++
+	}
+	return i
 }
 
 // addProduct adds the product of an absolute value and a limb to the first
